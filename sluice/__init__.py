@@ -1,0 +1,1 @@
+"""Sluiceroll: a river's water dealt by a roll of licences."""
