@@ -1,4 +1,7 @@
-"""Looks whether the package keeps to its part of Python: the rules that can be seen file by file."""
+"""Looks at some of the rules that the package's code keeps to, not at all of them.
+
+In the whole or in part: L1, L2, L4 to L8, L10, L12, L14, L17, L20. The others are for the reader.
+"""
 
 import ast
 import builtins
