@@ -1,6 +1,13 @@
-"""Rivers for the tests, and one check that all functions which tell lists have to stand."""
+"""Rivers and rolls for the tests, slow tellings of the document, and checks that many functions have to stand."""
 
 import copy
+import random
+
+from sluice import errors
+
+MOST = 10 ** 12
+GREATEST_TAKE = 10 ** 14
+MANY_FIGURES = 10 ** 5000
 
 
 def chain(length):
@@ -39,6 +46,108 @@ RIVERS = {
 def steps_down(below, reach):
     """The way, told by the words of the document once more, for the tests to compare with."""
     return [reach] if below[reach] == -1 else [reach] + steps_down(below, below[reach])
+
+
+def slow_stretch(below, one):
+    """The reaches of a licence, told by the words of the document once more."""
+    way = steps_down(below, one[1])
+    return way if one[2] == -1 else way[:way.index(one[2])]
+
+
+def slow_natural(below, springs):
+    ways = [steps_down(below, reach) for reach in range(len(below))]
+    return [sum(spring for spring, way in zip(springs, ways) if reach in way) for reach in range(len(below))]
+
+
+def slow_free(below, springs, roll, takes):
+    free = slow_natural(below, springs)
+    for one, take in zip(roll, takes):
+        for reach in slow_stretch(below, one):
+            free[reach] -= take
+    return free
+
+
+def slow_turns(free, ways, rests):
+    """The takers played drop by drop."""
+    left, takes, done = list(free), [0] * len(ways), [False] * len(ways)
+    while not all(done):
+        for taker, way in enumerate(ways):
+            if done[taker]:
+                continue
+            if takes[taker] < rests[taker] and all(left[reach] > 0 for reach in way):
+                takes[taker] += 1
+                for reach in way:
+                    left[reach] -= 1
+            else:
+                done[taker] = True
+    return takes, left
+
+
+def seeded(seed):
+    """The same numbers each time: the tests hang on no chance."""
+    return random.Random(seed)
+
+
+def some_river(dice, length):
+    """Each reach flows into one drawn ahead of it, under numbers that are drawn, too."""
+    numbers = dice.sample(range(length), length)
+    below = [-1] * length
+    for place in range(1, length):
+        if dice.randrange(6):
+            below[numbers[place]] = numbers[dice.randrange(max(0, place - 4), place)]
+    return below
+
+
+def some_licence(dice, below, days, most, gives_back):
+    start = dice.randrange(len(below))
+    lower = steps_down(below, start)[1:]
+    back = dice.choice(lower) if gives_back and lower and dice.randrange(2) else -1
+    return (dice.randrange(days), start, back, dice.choice((0, most, dice.randint(0, most), dice.randint(0, most))))
+
+
+def some_roll(dice, below, count, days, most, gives_back=True):
+    return [some_licence(dice, below, days, most, gives_back) for place in range(count)]
+
+
+def some_amounts(dice, count, most):
+    return [dice.choice((0, most, dice.randint(0, most), dice.randint(0, most))) for place in range(count)]
+
+
+def check_refused(case, refusal, ask, *handed):
+    """It is refused with just this class, and the handed-in stays as it was."""
+    as_it_was = copy.deepcopy(handed)
+    with case.assertRaises(errors.SluiceError) as caught:
+        ask(*handed)
+    case.assertIs(type(caught.exception), refusal)
+    case.assertIsInstance(caught.exception, ValueError)
+    case.assertEqual(handed, as_it_was)
+    others = [one for one in vars(errors).values() if isinstance(one, type) and isinstance(caught.exception, one)]
+    case.assertCountEqual(others, [errors.SluiceError, refusal])
+
+
+def spoil(told):
+    """All that an asker can do to what is its own: the lists in it, at whatever depth."""
+    if isinstance(told, (list, tuple)):
+        for part in told:
+            spoil(part)
+    if isinstance(told, list):
+        told.append(99)
+        told[0] = -99
+
+
+def check_apart(case, ask, *handed):
+    """Promise 2 of any kind of answer: neither what is handed in nor what is told hangs on the other."""
+    as_it_was = copy.deepcopy(handed)
+    told = ask(*handed)
+    as_told = copy.deepcopy(told)
+    case.assertEqual(handed, as_it_was)
+    spoil(told)
+    case.assertEqual(handed, as_it_was)
+    again = ask(*handed)
+    case.assertEqual(again, as_told)
+    spoil(handed)
+    case.assertEqual(again, as_told)
+    case.assertEqual(ask(*as_it_was), as_told)
 
 
 def check_own(case, ask, *handed):

@@ -1,13 +1,12 @@
 import unittest
 
-from samples import FORKED, RIVERS, chain, check_own, steps_down
+from samples import FORKED, MANY_FIGURES, RIVERS, chain, check_own, slow_natural, steps_down
 from sluice import errors
 from sluice.errors import NoReach, SluiceError
 from sluice.flows import flows_of, natural_of
 
 MOST_SPRING = 10 ** 12
 MOST_AMOUNT = 10 ** 14
-MANY_FIGURES = 10 ** 5000
 
 
 def springs_for(below):
@@ -25,11 +24,6 @@ def moves_for(below):
         amount = (turn ** 5 * 31 - 10 ** 9, MOST_AMOUNT, -MOST_AMOUNT, turn, -turn)[turn % 5]
         moves.append((start, stops[turn // 5 % 4], amount))
     return moves
-
-
-def slow_natural(below, springs):
-    above = [[top for top in range(len(below)) if reach in steps_down(below, top)] for reach in range(len(below))]
-    return [sum(springs[top] for top in tops) for tops in above]
 
 
 def slow_flows(below, springs, moves):

@@ -1,12 +1,10 @@
 import itertools
 import unittest
 
-from samples import FORKED, RIVERS, chain, check_own, renumbered, steps_down
+from samples import FORKED, MANY_FIGURES, RIVERS, chain, check_own, renumbered, steps_down
 from sluice import errors
 from sluice.errors import NoReach, SluiceError
 from sluice.rivers import above_of, is_river, mouths_of, stretch_of, tops_first, way_of
-
-MANY_FIGURES = 10 ** 5000
 
 
 class IsRiver(unittest.TestCase):
