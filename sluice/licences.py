@@ -23,6 +23,14 @@ def day_filed(one):
     return one[0]
 
 
+def start_of(one):
+    return one[1]
+
+
+def gives_back(one):
+    return one[2] != MOUTH
+
+
 def most_of(one):
     return one[3]
 

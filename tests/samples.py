@@ -83,6 +83,45 @@ def slow_turns(free, ways, rests):
     return takes, left
 
 
+def slow_wants(roll, calls):
+    return [min(one[3], call) for one, call in zip(roll, calls)]
+
+
+def slow_deal(below, springs, roll, calls):
+    """The dealing played drop by drop."""
+    free, wants, takes = slow_natural(below, springs), slow_wants(roll, calls), [0] * len(roll)
+    for day in sorted({one[0] for one in roll}):
+        group = [number for number, one in enumerate(roll) if one[0] == day]
+        ways = [slow_stretch(below, roll[number]) for number in group]
+        dealt, free = slow_turns(free, ways, [wants[number] for number in group])
+        for number, take in zip(group, dealt):
+            takes[number] = take
+    return takes
+
+
+def slow_shows(below, springs, roll, takes, number, reach):
+    """Of each licence the last drop is looked at, which comes behind its others."""
+    if reach not in slow_stretch(below, roll[number]):
+        return False
+    held = [other for other, one in enumerate(roll) if takes[other] > 0 and reach in slow_stretch(below, one)]
+    if sum(takes[other] for other in held) != slow_natural(below, springs)[reach]:
+        return False
+    following = (roll[number][0], takes[number] + 1, number)
+    return all((roll[other][0], takes[other], other) < following for other in held)
+
+
+def check_dealt(case, below, springs, roll, calls, takes):
+    """Promise 3: the one list of takes, known without dealing."""
+    wants = slow_wants(roll, calls)
+    case.assertEqual(len(takes), len(roll))
+    case.assertGreaterEqual(min(slow_free(below, springs, roll, takes)), 0)
+    for number, (take, want) in enumerate(zip(takes, wants)):
+        case.assertTrue(0 <= take <= want, number)
+        showing = [reach for reach in range(len(below)) if take < want
+                   and slow_shows(below, springs, roll, takes, number, reach)]
+        case.assertTrue(take == want or showing, number)
+
+
 def seeded(seed):
     """The same numbers each time: the tests hang on no chance."""
     return random.Random(seed)
@@ -111,6 +150,13 @@ def some_roll(dice, below, count, days, most, gives_back=True):
 
 def some_amounts(dice, count, most):
     return [dice.choice((0, most, dice.randint(0, most), dice.randint(0, most))) for place in range(count)]
+
+
+def some_day(dice, most, reaches=12, licences=12, days=4, gives_back=True):
+    """A river, springs, a roll and calls, of sizes up to those told."""
+    below = some_river(dice, dice.randint(1, reaches))
+    roll = some_roll(dice, below, dice.randint(0, licences), days, most, gives_back)
+    return below, some_amounts(dice, len(below), most), roll, some_amounts(dice, len(roll), most)
 
 
 def check_refused(case, refusal, ask, *handed):
