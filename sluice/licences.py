@@ -35,6 +35,14 @@ def most_of(one):
     return one[3]
 
 
+def with_start(one, start):
+    return (one[0], start, one[2], one[3])
+
+
+def with_most(one, most):
+    return (one[0], one[1], one[2], most)
+
+
 def ranked(roll):
     return sorted(range(len(roll)), key=lambda number: (day_filed(roll[number]), number))
 

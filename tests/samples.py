@@ -159,6 +159,27 @@ def some_day(dice, most, reaches=12, licences=12, days=4, gives_back=True):
     return below, some_amounts(dice, len(below), most), roll, some_amounts(dice, len(roll), most)
 
 
+def some_ponds(dice, roll, most):
+    """Up to ten ponds at licences that do not give back, and what they keep."""
+    numbers = [number for number, one in enumerate(roll) if one[2] == -1]
+    chosen = dice.sample(numbers, min(len(numbers), dice.randint(0, 10)))
+    ponds = [(number, room, dice.choice((0, 1, 40, 999, 1000)))
+             for number, room in zip(chosen, some_amounts(dice, 10, most))]
+    return ponds, [dice.choice((0, room, dice.randint(0, room))) for number, room, leak in ponds]
+
+
+def some_lets(dice, below, roll, ponds, kept, count):
+    """Lets that none of the ponds refuses, to the start, to reaches on the way and to the mouth."""
+    left, lets = list(kept), []
+    for turn in range(count if ponds else 0):
+        place = dice.randrange(len(ponds))
+        amount = dice.choice((0, left[place], dice.randint(0, left[place])))
+        left[place] -= amount
+        start = roll[ponds[place][0]][1]
+        lets.append((place, dice.choice([-1, start] + steps_down(below, start)), amount))
+    return lets
+
+
 def check_refused(case, refusal, ask, *handed):
     """It is refused with just this class, and the handed-in stays as it was."""
     as_it_was = copy.deepcopy(handed)
