@@ -110,6 +110,30 @@ def slow_shows(below, springs, roll, takes, number, reach):
     return all((roll[other][0], takes[other], other) < following for other in held)
 
 
+def slow_day(below, springs, roll, ponds, kept, calls, lets):
+    """The day told once more by the words of the document; the dealing is looked at elsewhere."""
+    left = list(kept)
+    for place, reach, amount in lets:
+        left[place] -= amount
+    lessened = list(calls)
+    for (number, room, leak), keeps in zip(ponds, left):
+        lessened[number] = min(calls[number], room - keeps)
+    takes = slow_deal(below, springs, roll, lessened)
+    full = [keeps + takes[number] for (number, room, leak), keeps in zip(ponds, left)]
+    lost = [drops * leak // 1000 for drops, (number, room, leak) in zip(full, ponds)]
+    after = [drops - loss for drops, loss in zip(full, lost)]
+    flows = slow_free(below, springs, roll, takes)
+    for place, reach, amount in lets:
+        way = steps_down(below, roll[ponds[place][0]][1])
+        for passed in way if reach == -1 else way[:way.index(reach)]:
+            flows[passed] += amount
+    keepers = [number for number, room, leak in ponds]
+    used = sum(take for number, take in enumerate(takes) if roll[number][2] == -1 and number not in keepers)
+    used += sum(amount for place, reach, amount in lets if reach != -1)
+    out = sum(flow for reach, flow in enumerate(flows) if below[reach] == -1)
+    return takes, after, flows, (sum(springs), sum(kept), used, sum(after), sum(lost), out)
+
+
 def check_dealt(case, below, springs, roll, calls, takes):
     """Promise 3: the one list of takes, known without dealing."""
     wants = slow_wants(roll, calls)
@@ -178,6 +202,30 @@ def some_lets(dice, below, roll, ponds, kept, count):
         start = roll[ponds[place][0]][1]
         lets.append((place, dice.choice([-1, start] + steps_down(below, start)), amount))
     return lets
+
+
+def told_by(roll):
+    """All that a Roll tells of itself."""
+    return roll.today(), roll.roll(), roll.holders(), roll.deeds()
+
+
+def try_some_deed(dice, roll, below, lapses=1):
+    """One deed, drawn so that it is often refused; what is refused is let be."""
+    number, holder, to = dice.randint(-1, 9), dice.choice("abc"), dice.choice("abcD")
+    amount, start = dice.choice((0, 1, 2, 5, 40, MOST, MOST + 1)), dice.randint(-1, len(below))
+    if 0 <= number < len(roll.roll()) and dice.randrange(4):
+        holder = roll.holders()[number]
+    back = dice.choice([-1, 2] + (steps_down(below, start) if 0 <= start < len(below) else []))
+    numbers = [dice.choice((0, 30, 50, MOST)) for place in range(len(roll.roll()) + (dice.randrange(8) == 0))]
+    deeds = [
+        lambda: roll.turn(), lambda: roll.file(to, start, amount, back), lambda: roll.sell(number, holder, to),
+        lambda: roll.part(number, holder, amount, to), lambda: roll.drop(number, holder),
+        lambda: roll.move(number, holder, start), lambda: roll.lapse(numbers),
+    ]
+    try:
+        dice.choices(deeds, (6, 6, 2, 12, 1, 3, lapses))[0]()
+    except errors.SluiceError:
+        pass
 
 
 def check_refused(case, refusal, ask, *handed):

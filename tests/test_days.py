@@ -1,33 +1,9 @@
 import unittest
 
-from samples import FORKED, MOST, chain, check_apart, check_refused, seeded, slow_deal, slow_free, slow_wants, some_day
-from samples import check_dealt, some_amounts, some_lets, some_ponds, steps_down
+from samples import FORKED, MOST, chain, check_apart, check_dealt, check_refused, seeded, slow_day, slow_wants
+from samples import some_amounts, some_day, some_lets, some_ponds
 from sluice.days import day_of
 from sluice.errors import NoPond, NoReach, TooMuch
-
-
-def slow_day(below, springs, roll, ponds, kept, calls, lets):
-    """The day told once more by the words of the document; the dealing is looked at elsewhere."""
-    left = list(kept)
-    for place, reach, amount in lets:
-        left[place] -= amount
-    lessened = list(calls)
-    for (number, room, leak), keeps in zip(ponds, left):
-        lessened[number] = min(calls[number], room - keeps)
-    takes = slow_deal(below, springs, roll, lessened)
-    full = [keeps + takes[number] for (number, room, leak), keeps in zip(ponds, left)]
-    lost = [drops * leak // 1000 for drops, (number, room, leak) in zip(full, ponds)]
-    after = [drops - loss for drops, loss in zip(full, lost)]
-    flows = slow_free(below, springs, roll, takes)
-    for place, reach, amount in lets:
-        way = steps_down(below, roll[ponds[place][0]][1])
-        for passed in way if reach == -1 else way[:way.index(reach)]:
-            flows[passed] += amount
-    keepers = [number for number, room, leak in ponds]
-    used = sum(take for number, take in enumerate(takes) if roll[number][2] == -1 and number not in keepers)
-    used += sum(amount for place, reach, amount in lets if reach != -1)
-    out = sum(flow for reach, flow in enumerate(flows) if below[reach] == -1)
-    return takes, after, flows, (sum(springs), sum(kept), used, sum(after), sum(lost), out)
 
 
 def whole_day(dice, most, reaches=12, licences=14, days=3):

@@ -1,18 +1,14 @@
 import unittest
 
-from samples import FORKED, MOST, check_refused, seeded, steps_down
+from samples import FORKED, MOST, check_refused, seeded, told_by, try_some_deed
 from sluice.deeds import replayed
-from sluice.errors import Full, NoHolder, NoLicence, NoNumber, NoRiver, NotAlone, NotYours, SluiceError, TooMuch
+from sluice.errors import Full, NoHolder, NoLicence, NoNumber, NoRiver, NotAlone, NotYours, TooMuch
 from sluice.rolls import Roll
 
 DEEDS = [
     ("turn",), ("file", "anna", 0, 10, -1), ("turn",), ("file", "bert", 7, 20, 5), ("sell", 0, "anna", "dora"),
     ("part", 1, "bert", 5, "emil"), ("drop", 0, "dora"), ("move", 2, "emil", 2), ("lapse", (9, MOST, 3)), ("turn",),
 ]
-
-
-def told_by(roll):
-    return roll.today(), roll.roll(), roll.holders(), roll.deeds()
 
 
 class EachDeed(unittest.TestCase):
@@ -66,25 +62,6 @@ class Refused(unittest.TestCase):
         deeds = [("drop", 0, "anna"), ("file", "Anna", 0, 10, -1)]
         check_refused(self, NoNumber, replayed, list(FORKED), deeds)
         check_refused(self, NoHolder, replayed, list(FORKED), deeds[::-1])
-
-
-def try_some_deed(dice, roll, below):
-    """One deed, drawn so that it is often refused; what is refused is let be."""
-    number, holder, to = dice.randint(-1, 9), dice.choice("abc"), dice.choice("abcD")
-    amount, start = dice.choice((0, 1, 2, 5, 40, MOST, MOST + 1)), dice.randint(-1, len(below))
-    if 0 <= number < len(roll.roll()) and dice.randrange(4):
-        holder = roll.holders()[number]
-    back = dice.choice([-1, 2] + (steps_down(below, start) if 0 <= start < len(below) else []))
-    numbers = [dice.choice((0, 30, 50, MOST)) for place in range(len(roll.roll()) + (dice.randrange(8) == 0))]
-    deeds = [
-        lambda: roll.turn(), lambda: roll.file(to, start, amount, back), lambda: roll.sell(number, holder, to),
-        lambda: roll.part(number, holder, amount, to), lambda: roll.drop(number, holder),
-        lambda: roll.move(number, holder, start), lambda: roll.lapse(numbers),
-    ]
-    try:
-        dice.choices(deeds, (6, 6, 2, 12, 1, 3, 1))[0]()
-    except SluiceError:
-        pass
 
 
 class DoneAnew(unittest.TestCase):

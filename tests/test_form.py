@@ -296,6 +296,8 @@ class Form(unittest.TestCase):
             over = self.over[node]
             if isinstance(over, (ast.For, ast.comprehension)):
                 return over.iter is node
+            if isinstance(over, ast.Call) and isinstance(over.func, ast.Attribute) and over.func.attr == "join":
+                return isinstance(over.func.value, ast.Constant)
             return called(over) in WALKERS and over.args[0] is node
 
         self.look(ast.Call, keeps)

@@ -1,6 +1,6 @@
 import unittest
 
-from samples import FORKED, MANY_FIGURES, MOST, RIVERS, chain, check_own, check_refused
+from samples import FORKED, MANY_FIGURES, MOST, RIVERS, chain, check_own, check_refused, told_by
 from sluice.errors import Full, NoHolder, NoLicence, NoNumber, NoRiver, NotAlone, NotYours, SluiceError, TooMuch
 from sluice.rolls import Roll
 
@@ -10,10 +10,6 @@ NO_NAMES = [
     "an\tna", "anna\n", "`", "{", "_",
 ]
 NO_NUMBERS = [-1, -2, -MANY_FIGURES, 3, 4, 60, MANY_FIGURES]
-
-
-def told_by(roll):
-    return roll.today(), roll.roll(), roll.holders(), roll.deeds()
 
 
 def some_started():

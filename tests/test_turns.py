@@ -101,6 +101,13 @@ class DealTurns(unittest.TestCase):
                 self.assertEqual(deal_turns(free, ways, rests), slow_turns(free, ways, rests))
 
 
+    def test_somewhat_beyond_the_bounds(self):
+        self.check([-1, 5], [[0], [1]], [5, 3], [0, 3], [-1, 2])
+        self.check([5], [[0], [0]], [-1, 9], [0, 5], [0])
+        self.check([5], [[0]] * 70, [1] * 70, [1] * 5 + [0] * 65, [0])
+        self.check([1] * 45, [[44, 0]], [10 ** 13], [1], [0] + [1] * 43 + [0])
+
+
 class GreatNumbers(unittest.TestCase):
     def test_one_reach(self):
         told = deal_turns([GREATEST_TAKE], [[0], [0]], [MOST, MOST])
@@ -189,6 +196,11 @@ class WholeTurns(unittest.TestCase):
         self.assertEqual(whole_turns([0], [[0]], [4]), 0)
         self.assertEqual(whole_turns([0], [[0]], [0]), 0)
         self.assertEqual(whole_turns([9, 0], [[0], [1]], [4, 4]), 0)
+
+    def test_never_below_nought(self):
+        self.assertEqual(whole_turns([-1], [[0]], [4]), 0)
+        self.assertEqual(whole_turns([4], [[0]], [-1]), 0)
+        self.assertEqual(whole_turns([4], [], []), 0)
 
     def test_a_reach_on_no_way_does_not_count(self):
         self.assertEqual(whole_turns([0, 9], [[1]], [4]), 4)
