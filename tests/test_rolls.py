@@ -270,6 +270,9 @@ class Part(Case):
         self.refuse(NotAlone, roll, roll.part, 5, "carl", 1, "dora")
         self.refuse(TooMuch, roll, roll.part, 0, "anna", 10, "dora")
         self.refuse(NoHolder, roll, roll.part, 0, "anna", 1, "Dora")
+        self.refuse(NotYours, roll, roll.part, 0, "bert", 1, "dora")
+        self.refuse(NoNumber, roll, roll.part, 60, "anna", 1, "dora")
+        self.refuse(NoNumber, roll, roll.part, -1, "carl", 1, "dora")
         roll.drop(9, "carl")
         self.refuse(Full, roll, roll.part, 0, "anna", 1, "dora")
 
