@@ -48,11 +48,12 @@ class Book(Roll):
     def has_pond(self, number):
         return any([number == other for other, room, leak in self.dug])
 
-    def run(self, springs, calls, lets=()):
+    def run(self, springs, calls, lets=None):
         self.look_at_amounts(springs, len(self.below))
         self.look_at_amounts(calls, len(self.licences))
-        left, dealt_by = morning_of(self.below, self.licences, self.dug, self.keeps, calls, lets)
-        told = day_of(self.below, springs, self.licences, self.dug, self.keeps, calls, lets)
+        lets_told = [] if lets is None else lets
+        left, dealt_by = morning_of(self.below, self.licences, self.dug, self.keeps, calls, lets_told)
+        told = day_of(self.below, springs, self.licences, self.dug, self.keeps, calls, lets_told)
         takes, kept, flows, sheet = told
         self.keeps = list(kept)
         self.ran.append((list(springs), dealt_by))

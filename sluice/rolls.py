@@ -3,7 +3,7 @@
 from sluice.bounds import is_name, is_water
 from sluice.errors import Full, NoHolder, NoLicence, NoNumber, NoRiver, NotAlone, NotYours, TooMuch
 from sluice.licences import day_filed, is_licence, most_of, with_most, with_start
-from sluice.rivers import is_river
+from sluice.rivers import MOUTH, is_river
 
 MOST_LICENCES = 60
 
@@ -39,13 +39,15 @@ class Roll:
         self.day += 1
         self.done.append(("turn",))
 
-    def file(self, holder, start, most, back=-1):
+    def file(self, holder, start, most, back=None):
         look_at_name(holder)
-        one = (self.day, start, back, most)
+        # A default has no sign, so -1 comes in here; deeds, too, have it where back was left out.
+        stop = MOUTH if back is None else back
+        one = (self.day, start, stop, most)
         if most == 0 or not is_licence(self.below, one):
             raise NoLicence("this would be no licence, or one to take nothing")
         self.look_at_room()
-        self.done.append(("file", holder, start, most, back))
+        self.done.append(("file", holder, start, most, stop))
         return self.enter(one, holder)
 
     def sell(self, number, holder, to):

@@ -56,6 +56,17 @@ class Beginning(Case):
         self.assertEqual(told_by(book), (0, [], [], []))
         self.assertEqual((book.ponds(), book.kept(), book.record()), ([], [], []))
 
+    def test_a_filing_with_back_left_out_is_like_one_with_none(self):
+        left_out, told = Book(FORKED), Book(FORKED)
+        left_out.file("anna", 7, 10)
+        told.file("anna", 7, 10, -1)
+        self.assertEqual(all_told_by(left_out), all_told_by(told))
+        # A pond is put at licences alone that do not give back.
+        for book in (left_out, told):
+            self.assertEqual(book.pond(0, "anna", 15), 0)
+            book.run([2] * 8, [9])
+        self.assertEqual(all_told_by(left_out), all_told_by(told))
+
     def test_no_river(self):
         for below in ([], [0], [1, 0], [-2], [1], chain(41), [MANY_FIGURES]):
             check_refused(self, NoRiver, Book, below)
@@ -188,6 +199,32 @@ class Run(Case):
         book, other = with_pond(), with_pond()
         self.assertEqual(book.run(springs=[9] * 8, calls=[9] * 3), other.run([9] * 8, [9] * 3, lets=[]))
         self.assertEqual(all_told_by(book), all_told_by(other))
+
+    def test_lets_left_out_are_like_none_told(self):
+        left_out, told = with_pond(), with_pond()
+        for springs, calls in (([3] * 8, [9, 5, 9]), (DRY, [0] * 3), ([MOST] * 8, [MOST] * 3), ([1] * 8, [9, 9, 0])):
+            day = left_out.run(springs, calls)
+            self.assertEqual(day, told.run(springs, calls, []))
+            self.assertEqual(day[1], left_out.kept())
+            self.assertEqual(left_out.kept(), told.kept())
+            self.assertEqual(left_out.record(), told.record())
+            self.assertEqual(left_out.deeds(), told.deeds())
+            self.assertEqual(all_told_by(left_out), all_told_by(told))
+        self.assertEqual(left_out.close(), told.close())
+        self.assertEqual(all_told_by(left_out), all_told_by(told))
+
+    def test_lets_left_out_behind_a_run_that_had_some(self):
+        book = with_pond()
+        book.run([9] * 8, [9, 0, 0])
+        book.run(DRY, [0, 0, 0], [(0, -1, 2)])
+        kept = book.kept()
+        self.assertEqual(book.run(DRY, [0, 0, 0]), slow_day(FORKED, DRY, book.roll(), book.ponds(), kept, [0] * 3, []))
+
+    def test_lets_left_out_are_refused_like_none_told(self):
+        book = with_pond()
+        for springs, calls in (([1] * 7, [1] * 3), ([1] * 8, [1] * 4), ([-1] + [1] * 7, [1] * 3), ([1] * 8, [1, 1, -1])):
+            self.refuse(NoDay, book, book.run, springs, calls)
+            self.refuse(NoDay, book, book.run, springs, calls, [])
 
     def test_no_licences(self):
         book = Book([-1])

@@ -77,6 +77,14 @@ class DoneAnew(unittest.TestCase):
             self.assertEqual(told_by(replayed(FORKED, roll.deeds())), told_by(roll))
         self.assertGreater(min(kinds.values()), 10)
 
+    def test_a_filing_whose_back_was_left_out(self):
+        left_out, told = Roll(FORKED), Roll(FORKED)
+        left_out.file("anna", 7, 10)
+        told.file("anna", 7, 10, -1)
+        for roll in (left_out, told):
+            self.assertEqual(roll.deeds(), [("file", "anna", 7, 10, -1)])
+            self.assertEqual(told_by(replayed(FORKED, roll.deeds())), told_by(told))
+
     def test_the_rolls_are_apart(self):
         roll = replayed(FORKED, DEEDS)
         again = replayed(FORKED, roll.deeds())

@@ -92,6 +92,16 @@ def is_plain(node, functions):
     return isinstance(node, ast.Constant) or isinstance(node, ast.Name) and node.id in functions
 
 
+def is_written_value(node):
+    """A whole number without a sign, a text, True, False or None, by itself."""
+    return isinstance(node, ast.Constant) and (node.value is None or isinstance(node.value, (int, str)))
+
+
+def has_written_defaults(arguments):
+    behind_a_star = [node for node in arguments.kw_defaults if node is not None]
+    return all(is_written_value(node) for node in arguments.defaults + behind_a_star)
+
+
 class Form(unittest.TestCase):
     def setUp(self):
         self.files = sorted(PACKAGE.glob("*.py"))
@@ -146,6 +156,17 @@ class Form(unittest.TestCase):
 
     def test_functions_have_plain_parameters(self):
         self.look(ast.arguments, lambda node: not (node.vararg or node.kwarg or node.kwonlyargs or node.posonlyargs))
+
+    def test_defaults_are_written_values(self):
+        self.look((ast.FunctionDef, ast.Lambda), lambda node: has_written_defaults(node.args))
+
+    def test_which_defaults_are_written_values(self):
+        for default in ("0", "7", "1_000", "''", "'a'", "True", "False", "None"):
+            self.assertTrue(has_written_defaults(ast.parse(f"lambda one, two={default}: one").body[0].value.args))
+        for default in ("-1", "+1", "~0", "()", "(1,)", "[]", "{}", "MOUTH", "1 + 1", "f''", "list()", "1.0", "..."):
+            for told in (f"one={default}", f"one, two={default}", f"one={default}, two=1", f"one, *, two={default}"):
+                with self.subTest(told):
+                    self.assertFalse(has_written_defaults(ast.parse(f"lambda {told}: one").body[0].value.args))
 
     def test_classes_hold_methods_alone(self):
         self.look(ast.ClassDef, lambda node: len(node.bases) <= 1 and not node.keywords)

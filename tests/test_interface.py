@@ -37,12 +37,12 @@ FUNCTIONS = {
     "texts": ["read_words(row)", "read_number(word)", "read_name(word)", "show_row(numbers)"],
 }
 ROLL = [
-    "today()", "roll()", "holders()", "deeds()", "turn()", "file(holder, start, most, back=-1)",
+    "today()", "roll()", "holders()", "deeds()", "turn()", "file(holder, start, most, back=None)",
     "sell(number, holder, to)", "part(number, holder, most, to)", "drop(number, holder)", "move(number, holder, start)",
     "look_move(number, start)", "lapse(numbers)",
 ]
 BOOK = ROLL + [
-    "pond(number, holder, room, leak=0)", "ponds()", "kept()", "run(springs, calls, lets=())", "record()",
+    "pond(number, holder, room, leak=0)", "ponds()", "kept()", "run(springs, calls, lets=None)", "record()",
     "why(number)", "close()",
 ]
 

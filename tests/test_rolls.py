@@ -97,6 +97,36 @@ class File(Case):
         self.assertEqual(roll.file(holder="anna", start=0, most=10), 2)
         self.assertEqual(roll.roll(), [(0, 0, -1, 10), (0, 0, 3, 10), (0, 0, -1, 10)])
 
+    def test_back_left_out_is_like_one_told_as_none(self):
+        for start in range(8):
+            left_out, told = Roll(FORKED), Roll(FORKED)
+            left_out.file("anna", start, 10)
+            told.file("anna", start, 10, -1)
+            self.assertEqual(told_by(left_out), told_by(told))
+            self.assertEqual(left_out.roll(), [(0, start, -1, 10)])
+            self.assertEqual(left_out.deeds(), [("file", "anna", start, 10, -1)])
+
+    def test_back_left_out_is_refused_like_one_told_as_none(self):
+        full = Roll(FORKED)
+        for number in range(60):
+            full.file("anna", 0, 10)
+        for refusal, roll, handed in (
+            (NoHolder, full, ("Anna", 8, 0)), (NoLicence, full, ("anna", 8, 10)), (NoLicence, full, ("anna", 0, 0)),
+            (Full, full, ("anna", 0, 10)), (NoLicence, Roll(FORKED), ("anna", -1, 10)),
+        ):
+            self.refuse(refusal, roll, roll.file, *handed)
+            self.refuse(refusal, roll, roll.file, *handed, -1)
+
+    def test_what_becomes_of_a_licence_whose_back_was_left_out(self):
+        left_out, told = Roll(FORKED), Roll(FORKED)
+        left_out.file("anna", 0, 10)
+        told.file("anna", 0, 10, -1)
+        for roll in (left_out, told):
+            roll.part(0, "anna", 4, "bert")
+            roll.move(1, "bert", 7)
+        self.assertEqual(left_out.roll(), [(0, 0, -1, 6), (0, 7, -1, 4)])
+        self.assertEqual(told_by(left_out), told_by(told))
+
     def test_names(self):
         roll = Roll(FORKED)
         for name in NAMES:
